@@ -27,7 +27,7 @@ func Wrong(c []int) api.Errno {
 }
 
 // Find answers which entry has that name; -1, if none has it.
-func Find(c []int, name int) int { return findAmong(c, entries(c), name) }
+func Find(c []int, name int) int { return findAmong(c, Entries(c), name) }
 
 // Set answers what the cells are behind all those writes.
 func Set(c []int, l []api.Write) []int {
@@ -56,7 +56,7 @@ func Undo(c []int, l []api.Write) []api.Write {
 
 // wrongEntry needs cells of the right count: i is an entry that they have room for.
 func wrongEntry(c []int, i int) api.Errno {
-	name, number := c[nameCell(i)], c[nameCell(i)+1]
+	name, number := c[NameCell(i)], c[NumberCell(i)]
 	if !within(name, 1, api.MaxName) || !within(number, -api.MaxNum, api.MaxNum) {
 		return api.ErrRange
 	}
@@ -66,8 +66,8 @@ func wrongEntry(c []int, i int) api.Errno {
 	return api.OK
 }
 
-// entries trusts cell 0 only as far as there are cells, so that whoever goes through the entries of wrong cells ends within them.
-func entries(c []int) int {
+// Entries trusts cell 0 only as far as there are cells, so that whoever goes through the entries of wrong cells ends within them.
+func Entries(c []int) int {
 	if len(c) == 0 {
 		return 0
 	}
@@ -77,14 +77,18 @@ func entries(c []int) int {
 // findAmong looks at the first n entries only.
 func findAmong(c []int, n, name int) int {
 	for i := range n {
-		if c[nameCell(i)] == name {
+		if c[NameCell(i)] == name {
 			return i
 		}
 	}
 	return -1
 }
 
-func nameCell(i int) int { return 1 + 2*i }
+// NameCell answers which cell has the name of entry i.
+func NameCell(i int) int { return 1 + 2*i }
+
+// NumberCell answers which cell has the number of entry i.
+func NumberCell(i int) int { return NameCell(i) + 1 }
 
 func has(c []int, at int) bool { return at >= 0 && at < len(c) }
 

@@ -342,3 +342,34 @@ func TestTheSameAgain(t *testing.T) {
 		sameWrites(t, Undo(two(), l), []api.Write{{At: 3, N: 9}, {At: 1, N: 7}})
 	}
 }
+
+// TestEntries: cell 0 is trusted only as far as there are cells; one without its number is none.
+func TestEntries(t *testing.T) {
+	tests := []struct {
+		c    []int
+		want int
+	}{
+		{nil, 0},
+		{[]int{3}, 0},
+		{[]int{3, 1}, 0},
+		{[]int{3, 1, 2}, 1},
+		{[]int{3, 1, 2, 3}, 1},
+		{[]int{math.MaxInt, 1, 2}, 1},
+		{New(), 0},
+		{two(), 2},
+		{full(), api.MaxEntries},
+	}
+	for _, x := range tests {
+		if n := Entries(x.c); n != x.want {
+			t.Errorf("%v: %d, not %d", x.c, n, x.want)
+		}
+	}
+}
+
+func TestCellsOfAnEntry(t *testing.T) {
+	for i := range api.MaxEntries {
+		if NameCell(i) != 1+2*i || NumberCell(i) != 2+2*i {
+			t.Errorf("entry %d: %d and %d", i, NameCell(i), NumberCell(i))
+		}
+	}
+}
